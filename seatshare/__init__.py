@@ -1,0 +1,1 @@
+"""Seats shared out by votes."""
